@@ -1,0 +1,1 @@
+"""Braid book: braids of up to sixteen strands."""
