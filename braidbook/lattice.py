@@ -16,7 +16,7 @@ def crossed_in_either(a, b):
 def close(crossed):
     # If strands i and j cross, and j and k, then i ends behind j and j behind k:
     # i and k must cross too. The later rows are closed first, so once is enough.
-    for i in reversed(range(PLACES)):
+    for i in range(PLACES - 1, -1, -1):
         for j in range(i + 1, PLACES):
             if crossed[i][j]:
                 add_crossings(crossed[i], crossed[j])

@@ -16,12 +16,10 @@ from braidbook.permutations import numbered
 from braidbook.permutations import row_of
 from braidbook.permutations import seen_from_behind
 from braidbook.permutations import taken_back
-
-DONE = 0
-NOT_RIGHT = -1
-TOO_LONG = -3
-
-LONGEST_ROW = 100
+from braidbook.refusals import DONE
+from braidbook.refusals import LONGEST_ROW
+from braidbook.refusals import NOT_RIGHT
+from braidbook.refusals import TOO_LARGE
 
 
 def all_right(call):
@@ -105,7 +103,7 @@ def answer_word(call):
 def answer_follow(call):
     row = call.rows[0]
     if len(row) > LONGEST_ROW:
-        return [TOO_LONG]
+        return [TOO_LARGE]
     return [DONE] + followed(row)
 
 

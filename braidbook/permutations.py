@@ -47,7 +47,7 @@ def crossing_pairs_count(a):
 def crossing_neighbours_sum(a):
     """The sum of 2^i for the i for which the strands from places i and i + 1 cross."""
     total = 0
-    for i in reversed(range(PLACES - 1)):
+    for i in range(PLACES - 2, -1, -1):
         total = 2 * total + (1 if a[i] > a[i + 1] else 0)
     return total
 

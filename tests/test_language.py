@@ -27,6 +27,12 @@ UNUSED_NAMES = set("""register mro elements open input version_info with_traceba
     builtins compile copyright credits delattr dir eval exec exit gc getattr globals hasattr help id importlib license
     locals methodcaller os quit setattr super type vars sys format format_map""".split())
 
+UNUSED_VALUES = set("""items keys values pop update append clear extend insert remove reverse setdefault sort args
+    encode format""".split())
+
+WALKED = ("range", "zip", "enumerate", "reversed")
+WALKING = ("list", "tuple", "dict", "sorted", "sum", "any", "all", "enumerate", "zip")
+
 NODES = tuple(getattr(ast, name) for name in """Module Import ImportFrom alias FunctionDef ClassDef arguments arg Assign
     AugAssign If While For Return Break Continue Pass Raise Try ExceptHandler Expr Lambda keyword Constant List Tuple
     Dict BinOp UnaryOp BoolOp Compare IfExp Call Attribute Subscript Slice Name ListComp comprehension JoinedStr
@@ -198,6 +204,40 @@ class Names(unittest.TestCase):
                 self.assertIn(node.func.attr, OWN_METHODS | own, where)
             if isinstance(node, ast.Attribute):
                 self.assertNotIn(node.attr, UNUSED_NAMES, where)
+
+    def test_values_of_objects(self):
+        methods, values = set(), set()
+        for where, node in walked():
+            if isinstance(node, ast.ClassDef):
+                methods.update(part.name for part in node.body if isinstance(part, ast.FunctionDef))
+            if isinstance(node, ast.Attribute) and isinstance(node.ctx, ast.Store):
+                values.add(node.attr)
+                self.assertNotIn(node.attr, UNUSED_VALUES, where)
+        self.assertEqual(methods & values, set())
+
+    def test_walked_at_once(self):
+        for path, tree in parsed():
+            walked_there = set()
+            for node in ast.walk(tree):
+                if isinstance(node, (ast.For, ast.comprehension)):
+                    walked_there.add(node.iter)
+                if isinstance(node, ast.Call) and isinstance(node.func, ast.Name) and node.func.id in WALKING:
+                    walked_there.update(node.args[:1])
+            for node in ast.walk(tree):
+                if isinstance(node, ast.Call) and isinstance(node.func, ast.Name) and node.func.id in WALKED:
+                    self.assertIn(node, walked_there, f"{path.name}:{node.lineno}")
+
+    def test_what_the_top_of_a_file_holds_is_flat_and_only_read(self):
+        for path, tree in parsed():
+            for node in tree.body:
+                if isinstance(node, ast.Assign) and isinstance(node.value, (ast.List, ast.Dict, ast.Tuple)):
+                    inner = [part for part in ast.walk(node.value) if part is not node.value]
+                    self.assertFalse([part for part in inner if isinstance(part, (ast.List, ast.Dict))], path)
+                    name = node.targets[0].id
+                    uses = [part for part in ast.walk(tree) if isinstance(part, ast.Name) and part.id == name]
+                    read = [part for part in ast.walk(tree) if isinstance(part, ast.Subscript)
+                            and isinstance(part.ctx, ast.Load) and part.value in uses]
+                    self.assertEqual(len(uses), 1 + len(read), f"{path.name} {name}")
 
     def test_no_local_is_called_like_an_import_or_a_class(self):
         for path, tree in parsed():
